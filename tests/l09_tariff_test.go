@@ -186,6 +186,37 @@ func TestZones(t *testing.T) {
 	}
 }
 
+// P9, P21: the same of what a call costs: of its own zone, of one that has no
+// tariff, and with a tariff of its zone beside one that may not be.
+func TestZonesOfCalls(t *testing.T) {
+	for _, zone := range endsAround(0, 1, 50, 98, 99, 100, 255) {
+		want := zone >= 0 && zone <= 99
+		checkZoneOfCall(t, "its own zone", []impl.Tariff{{Zone: zone, Step: 10, Price: 3, First: 4}}, zone, want)
+		checkZoneOfCall(t, "another zone", tariffsOf("7@0/10*3+4"), zone, zone == 7)
+		checkZoneOfCall(t, "none at all", nil, zone, false)
+		list := append(tariffsOf("7@0/10*3+4"), impl.Tariff{Zone: zone, From: 5000, Step: 1})
+		checkZoneOfCall(t, "beside it", list, 7, want)
+	}
+}
+
+// checkZoneOfCall has a call of 15 ticks: two steps of 3 and a First of 4.
+func checkZoneOfCall(t *testing.T, why string, list []impl.Tariff, zone int, want bool) {
+	t.Helper()
+	cost, n, after := impl.Charge{}, 0, impl.Purse{Left: 12, Kept: 2}
+	if want {
+		cost, n, after = impl.Charge{Steps: 2, Cost: 10}, 20, impl.Purse{Left: 12, Kept: 12}
+	}
+	if got, ok := impl.Rate(list, zone, 100, 115); got != cost || ok != want {
+		t.Errorf("%s: %s, zone %d: %v, %v", why, textOfTariffs(list), zone, got, ok)
+	}
+	if got, ok := impl.RateParts(list, zone, 100, 115, []int{100, 107, 115}); got != cost || ok != want {
+		t.Errorf("%s: %s, zone %d, in parts: %v, %v", why, textOfTariffs(list), zone, got, ok)
+	}
+	if got, most, ok := impl.Reserve(impl.Purse{Left: 12, Kept: 2}, list, zone, 100, 60); got != after || most != n || ok != want {
+		t.Errorf("%s: %s, zone %d: %v is kept for %d, %v", why, textOfTariffs(list), zone, got, most, ok)
+	}
+}
+
 // P9: no two of a zone have the same From, wherever both stand.
 func TestTariffsTwice(t *testing.T) {
 	n := impl.MaxTariffs
