@@ -8,8 +8,8 @@ import (
 	"loop.example/g00052/impl"
 )
 
-// waveTable is the first quarter of a circle, worked out by hand (in numbers
-// without a limit) from the rule.
+// waveTable is the first quarter of a circle, worked out from the rule apart
+// from the program, in numbers without a limit.
 var waveTable = [65]int{
 	1073741824, 1073418433, 1072448455, 1070832474, 1068571463, 1065666784, 1062120187, 1057933808,
 	1053110169, 1047652176, 1041563116, 1034846657, 1027506845, 1019548101, 1010975219, 1001793363,
