@@ -1,7 +1,6 @@
 package tests
 
 import (
-	"math"
 	"slices"
 	"testing"
 
@@ -163,8 +162,7 @@ func secondStir(bits []int, key int) []int {
 	var stirred []int
 	for i, told := range registerBits(key, stirLags, len(bits)) {
 		if told == 1 {
-			// The other one of its pair: an even one and the odd one behind it.
-			stirred = append(stirred, bits[i]+1-2*(bits[i]&1))
+			stirred = append(stirred, 1-bits[i])
 		} else {
 			stirred = append(stirred, bits[i])
 		}
@@ -182,7 +180,7 @@ func checkStir(t *testing.T, bits []int, key int, want []int) {
 func checkNoStir(t *testing.T, bits []int, key int) {
 	t.Helper()
 	if got, ok := impl.Stir15(bits, key); ok || len(got) != 0 {
-		t.Errorf("Stir15 of %d bits by %d: %d and %t", len(bits), key, got, ok)
+		t.Errorf("Stir15(%d, %d): %d and %t", bits, key, got, ok)
 	}
 }
 
@@ -193,6 +191,8 @@ func TestKnownStirs(t *testing.T) {
 		key  int
 		want string
 	}{
+		{"", 1, ""},
+		{"", 65535, ""},
 		{"0", 1, "1"},
 		{"1", 1, "0"},
 		{"0", 2, "0"},
@@ -214,7 +214,7 @@ func TestKnownStirs(t *testing.T) {
 // P15: drawn bits, by drawn keys; what is stirred twice is what it was.
 func TestDrawnStirs(t *testing.T) {
 	r := drawn(1506)
-	for n := 1; n <= 320; n++ {
+	for n := range 321 {
 		for _, key := range []int{1, 2, 32768, 65534, 65535, 1 + r.below(65535), 1 + r.below(65535)} {
 			bits := drawBitList(&r, n)
 			checkStir(t, bits, key, secondStir(bits, key))
@@ -247,12 +247,13 @@ func TestNoOtherKey(t *testing.T) {
 	}
 }
 
-// P15, P21: 1 to 2 MaxBurst bits, keys in 1 .. 65535.
+// P15, P21: at most 2 MaxBurst bits, keys in 1 .. 65535; a list without elements
+// is one of bits.
 func TestStirLimits(t *testing.T) {
 	for n := range 700 {
 		bits := repeated("1101", n)
 		for _, key := range []int{1, 2, 65534, 65535} {
-			if n >= 1 && n <= 320 {
+			if n <= 320 {
 				checkStir(t, bits, key, secondStir(bits, key))
 			} else {
 				checkNoStir(t, bits, key)
@@ -264,15 +265,45 @@ func TestStirLimits(t *testing.T) {
 	}
 }
 
-// P15: the chapter refuses no bit of Stir15; a number that is neither 0 nor 1
-// has its lowest bit turned, and comes back as well.
-func TestStirOfOtherNumbers(t *testing.T) {
-	for _, x := range append([]int{2, 3, -1, -2, 48, 255, 256}, farNumbers...) {
-		checkStir(t, []int{x}, 1, []int{x ^ 1})
-		checkStir(t, []int{x}, 2, []int{x})
-		bits := slices.Repeat([]int{0, x, 1}, 40)
-		checkStir(t, bits, 4321, secondStir(bits, 4321))
-		checkStir(t, secondStir(bits, 4321), 4321, bits)
+// P15: nothing is stirred into nothing by every key, and by no other number.
+func TestStirOfNothing(t *testing.T) {
+	for _, bits := range [][]int{nil, {}, []int{2, 1}[:0]} {
+		for key := 1; key <= 65535; key++ {
+			checkStir(t, bits, key, nil)
+		}
+		for _, key := range wrongKeys() {
+			checkNoStir(t, bits, key)
+		}
 	}
-	checkStir(t, []int{math.MaxInt, math.MinInt, 7, -1}, 13, []int{math.MaxInt - 1, math.MinInt, 6, -2})
+}
+
+// noBits are numbers that are neither 0 nor 1, near to these, alike in some of
+// their bits, or far off.
+func noBits() []int {
+	return append([]int{2, 3, 4, -1, -2, 48, 49, 255, 256, 257}, farNumbers...)
+}
+
+// P15: a number that is no bit, whichever it is, in each place and beside a key
+// that is none too.
+func TestStirOfNumbersThatAreNoBits(t *testing.T) {
+	for _, x := range noBits() {
+		for _, n := range []int{1, 2, 3, 16, 319, 320, 321} {
+			for _, place := range []int{0, n / 2, n - 1} {
+				for _, rest := range []string{"0", "1", "10"} {
+					list := repeated(rest, n)
+					list[place] = x
+					for _, key := range []int{0, 1, 2, 4321, 65535, 65536} {
+						checkNoStir(t, list, key)
+					}
+				}
+			}
+		}
+	}
+	for place := range 320 {
+		list := make([]int, 320)
+		list[place] = 2
+		checkNoStir(t, list, 1)
+		list[place] = -1
+		checkNoStir(t, list, 65535)
+	}
 }

@@ -37,10 +37,10 @@ func checkWeave(t *testing.T, bits []int, rows int, want []int) {
 func checkNoWeave(t *testing.T, bits []int, rows int) {
 	t.Helper()
 	if got, ok := impl.Weave15(bits, rows); ok || len(got) != 0 {
-		t.Errorf("Weave15 of %d bits in %d rows: %d and %t", len(bits), rows, got, ok)
+		t.Errorf("Weave15(%d, %d): %d and %t", bits, rows, got, ok)
 	}
 	if got, ok := impl.Unweave15(bits, rows); ok || len(got) != 0 {
-		t.Errorf("Unweave15 of %d bits in %d rows: %d and %t", len(bits), rows, got, ok)
+		t.Errorf("Unweave15(%d, %d): %d and %t", bits, rows, got, ok)
 	}
 }
 
@@ -115,12 +115,29 @@ func TestWeaveLimits(t *testing.T) {
 	}
 }
 
-// P15: the chapter refuses no bit of Weave15 and Unweave15; other numbers are
-// moved as they are.
-func TestWeaveOfOtherNumbers(t *testing.T) {
-	checkWeave(t, []int{1, 2, 3, 4, 5, 6}, 2, []int{1, 4, 2, 5, 3, 6})
-	checkWeave(t, []int{1, 2, 3, 4, 5, 6}, 3, []int{1, 3, 5, 2, 4, 6})
-	for _, x := range farNumbers {
-		checkWeave(t, []int{0, x, 1, -x}, 2, []int{0, 1, x, -x})
+// P15: a number that is no bit, whichever it is, in each place and in every
+// number of rows, those that may not be among them.
+func TestWeaveOfNumbersThatAreNoBits(t *testing.T) {
+	for _, x := range noBits() {
+		for _, n := range []int{1, 2, 4, 16, 240, 319, 320, 321} {
+			for _, place := range []int{0, n / 2, n - 1} {
+				for _, rest := range []string{"0", "1", "10"} {
+					list := repeated(rest, n)
+					list[place] = x
+					for rows := range 18 {
+						checkNoWeave(t, list, rows)
+					}
+				}
+			}
+		}
 	}
+	for place := range 320 {
+		list := make([]int, 320)
+		list[place] = 2
+		checkNoWeave(t, list, 16)
+		list[place] = -1
+		checkNoWeave(t, list, 1)
+	}
+	checkNoWeave(t, []int{1, 2, 3, 4, 5, 6}, 2)
+	checkNoWeave(t, []int{0, 1, -1, 1}, 2)
 }
