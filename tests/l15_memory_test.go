@@ -3,7 +3,6 @@ package tests
 import (
 	"fmt"
 	"slices"
-	"sync"
 	"testing"
 
 	"loop.example/g00052/impl"
@@ -168,20 +167,5 @@ func TestBurstsKeepNothing(t *testing.T) {
 		}
 		return text + signText(impl.Train())
 	}
-	first := drawn(1512)
-	want := tell(&first)
-	var all sync.WaitGroup
-	got := make([]string, 6)
-	for one := range got {
-		all.Go(func() {
-			r := drawn(1513 + one)
-			got[one] = tell(&r) + tell(&r)
-		})
-	}
-	all.Wait()
-	for _, told := range got {
-		if told != want+want {
-			t.Error("another answer behind or beside other calls")
-		}
-	}
+	checkToldAlike(t, 1512, tell)
 }

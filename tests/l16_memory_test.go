@@ -3,7 +3,6 @@ package tests
 import (
 	"fmt"
 	"slices"
-	"sync"
 	"testing"
 	"unsafe"
 
@@ -260,20 +259,5 @@ func TestRadioKeepsNothing(t *testing.T) {
 		}
 		return text
 	}
-	first := drawn(1618)
-	want := tell(&first)
-	var all sync.WaitGroup
-	got := make([]string, 6)
-	for one := range got {
-		all.Go(func() {
-			r := drawn(1619 + one)
-			got[one] = tell(&r) + tell(&r)
-		})
-	}
-	all.Wait()
-	for _, told := range got {
-		if told != want+want {
-			t.Error("another answer behind or beside other calls")
-		}
-	}
+	checkToldAlike(t, 1618, tell)
 }

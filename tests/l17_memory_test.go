@@ -3,7 +3,6 @@ package tests
 import (
 	"fmt"
 	"slices"
-	"sync"
 	"testing"
 
 	"loop.example/g00052/impl"
@@ -137,20 +136,5 @@ func TestLoadKeepsNothing(t *testing.T) {
 		}
 		return text
 	}
-	first := drawn(1708)
-	want := tell(&first)
-	var all sync.WaitGroup
-	got := make([]string, 6)
-	for one := range got {
-		all.Go(func() {
-			r := drawn(1709 + one)
-			got[one] = tell(&r) + tell(&r)
-		})
-	}
-	all.Wait()
-	for _, told := range got {
-		if told != want+want {
-			t.Error("another answer behind or beside other calls")
-		}
-	}
+	checkToldAlike(t, 1708, tell)
 }

@@ -1,6 +1,10 @@
 package tests
 
-import "slices"
+import (
+	"slices"
+	"sync"
+	"testing"
+)
 
 // guarded is a list with spare room behind it, and how both stood at first.
 type guarded[T comparable] struct {
@@ -23,5 +27,27 @@ func scribble[T any](list []T, mark T) {
 	list = list[:cap(list)]
 	for i := range list {
 		list[i] = mark
+	}
+}
+
+// checkToldAlike takes a text of what calls answer, among others that are drawn:
+// it is the same behind any others and beside them.
+func checkToldAlike(t *testing.T, seed int, tell func(r *drawn) string) {
+	t.Helper()
+	first := drawn(seed)
+	want := tell(&first)
+	var all sync.WaitGroup
+	got := make([]string, 6)
+	for one := range got {
+		all.Go(func() {
+			r := drawn(seed + 1 + one)
+			got[one] = tell(&r) + tell(&r)
+		})
+	}
+	all.Wait()
+	for _, told := range got {
+		if told != want+want {
+			t.Error("another answer behind or beside other calls")
+		}
 	}
 }
